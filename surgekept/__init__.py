@@ -1,0 +1,1 @@
+"""Surgekept: a basin behind a storm gate."""
