@@ -1,7 +1,7 @@
 """Plans: from which states a basin can be kept, how, and what beats the keeper from the others."""
 
 from surgekept.errors import InvalidState
-from surgekept.works import is_good, is_whole, span
+from surgekept.works import allowed_actions, gates, good_spans, is_good, is_whole, span
 
 # Stands for None within the tables. It is above every number of shut hours: so `max`
 # shows that something may come that is lost, and `min` prefers what can be kept.
@@ -68,7 +68,7 @@ class Plan:
 
     def _cost(self, number, state, shut):
         self.course.hour(number)
-        allowed = _allowed(self.works, state)
+        allowed = allowed_actions(self.works, state)
         if shut not in allowed:
             return _LOST
         return self._costs[number][(shut, allowed[shut])][state[0]]
@@ -84,50 +84,28 @@ def _told(shut_hours):
     return None if shut_hours == _LOST else shut_hours
 
 
-def _gates(works):
-    """Return the ways in which the gate may stand, as pairs (shut, since)."""
-    return [(shut, since) for shut in (False, True) for since in range(1, works.rest + 1)]
-
-
-def _allowed(works, state):
-    """Return the actions that the rest allows, each with `since` behind the hour."""
-    may_move = works.may_move(state)
-    return {shut: works.moved(state, shut) for shut in (False, True) if may_move or shut == state[1]}
-
-
 def _end_worst(works):
-    return {gate: [0] * (works.wall + 1) for gate in _gates(works)}
+    return {gate: [0] * (works.wall + 1) for gate in gates(works)}
 
 
 def _hour_costs(works, course, number, worst_behind):
     """Return the costs of an hour by the level, for each gate behind the hour."""
-    spans = {shut: _good_spans(works, course, number, shut) for shut in (False, True)}
+    spans = {shut: good_spans(works, course, number, shut) for shut in (False, True)}
     return {
         gate: [_worst_case(good_span, gate[0], worst_behind[gate]) for good_span in spans[gate[0]]]
-        for gate in _gates(works)
+        for gate in gates(works)
     }
 
 
 def _hour_worst(works, costs):
     """Return the worst numbers of an hour by the level, for each gate ahead of the hour."""
     worst = {}
-    for shut, since in _gates(works):
+    for shut, since in gates(works):
         # The rest alone tells which actions are allowed, so any level will do.
-        allowed = _allowed(works, (0, shut, since))
+        allowed = allowed_actions(works, (0, shut, since))
         by_action = [costs[(action, allowed[action])] for action in allowed]
         worst[(shut, since)] = [min(row) for row in zip(*by_action)]
     return worst
-
-
-def _good_spans(works, course, number, shut):
-    """Return by the level what may come behind an hour, or None where it may be bad."""
-    spans = []
-    for level in range(works.wall + 1):
-        least, greatest = span(works, course, number, level, shut)
-        # What is good has no gap: between two good levels all are.
-        ends = [is_good(works, course, number, shut, end) for end in (least, greatest)]
-        spans.append((least, greatest) if all(ends) else None)
-    return spans
 
 
 def _worst_case(good_span, shut, worst_behind):

@@ -123,6 +123,28 @@ def is_good(works, course, number, shut, level):
     return not ship or (not shut and level >= works.deep)
 
 
+def gates(works):
+    """Return the ways in which the gate may stand, as pairs (shut, since)."""
+    return [(shut, since) for shut in (False, True) for since in range(1, works.rest + 1)]
+
+
+def allowed_actions(works, state):
+    """Return the actions that the rest allows, each with `since` behind the hour."""
+    may_move = works.may_move(state)
+    return {shut: works.moved(state, shut) for shut in (False, True) if may_move or shut == state[1]}
+
+
+def good_spans(works, course, number, shut):
+    """Return by the level what may come behind an hour, or None where it may be bad."""
+    spans = []
+    for level in range(works.wall + 1):
+        least, greatest = span(works, course, number, level, shut)
+        # What is good has no gap: between two good levels all are.
+        ends = [is_good(works, course, number, shut, end) for end in (least, greatest)]
+        spans.append((least, greatest) if all(ends) else None)
+    return spans
+
+
 def _check_works_number(name, value, least, most):
     if not is_whole(value, least, most):
         raise InvalidWorks(f"the {name} of works is a whole number from {least} to {most}")

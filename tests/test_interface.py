@@ -14,6 +14,9 @@ CLASSES = {
     "plan": {
         "Plan": ("worst", "is_kept", "levels", "cost", "action", "beaten_by"),
     },
+    "session": {
+        "Session": ("run", "moment", "transcript"),
+    },
 }
 ARGUMENTS = {
     "works": {
@@ -39,6 +42,33 @@ ARGUMENTS = {
         "Plan.cost": ("self", "number", "state", "shut"),
         "Plan.action": ("self", "number", "state"),
         "Plan.beaten_by": ("self", "number", "state", "shut"),
+    },
+    "papers": {
+        "stretches": ("levels",),
+        "kept_paper": ("plan",),
+        "lost_paper": ("plan",),
+        "judge_kept": ("works", "course", "state", "paper"),
+        "judge_lost": ("works", "course", "state", "paper"),
+    },
+    "searches": {
+        "walled": ("works", "wall"),
+        "wall_needed": ("works", "course", "state"),
+        "greatest_surge": ("works", "course", "state"),
+        "last_closing": ("works", "course", "state"),
+    },
+    "notation": {
+        "format_book": ("works", "course"),
+        "parse_book": ("text",),
+        "format_state": ("state",),
+        "parse_state": ("text",),
+        "format_levels": ("levels",),
+    },
+    "session": {
+        "Session": ("text", "state"),
+        "Session.run": ("self", "command"),
+        "Session.moment": ("self",),
+        "Session.transcript": ("self",),
+        "replay": ("text",),
     },
 }
 

@@ -6,16 +6,9 @@ import unittest
 from surgekept.plan import Plan
 from surgekept.works import Course, Works
 from tests.reference import (
-    all_states, all_weather, is_good_hour, large_cases, level_behind, since_behind, small_cases)
+    all_states, all_weather, is_good_hour, large_cases, level_behind, levels_behind, since_behind, small_cases)
 
 LARGE = [(numbers, hours, Plan(Works(*numbers), Course(hours))) for numbers, hours in large_cases(5, 24)]
-
-
-def levels_behind(numbers, hour, level, shut):
-    """Every level that may come, by point 2.4 of the ends for hours with much weather."""
-    sea_low, sea_high, river_low, river_high, _ = hour
-    least = level_behind(numbers, level, shut, sea_low, river_low)
-    return range(least, level_behind(numbers, level, shut, sea_high, river_high) + 1)
 
 
 class LedTest(unittest.TestCase):
